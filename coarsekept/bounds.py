@@ -25,3 +25,38 @@ def number_bounds(bucket, a, c):
     inside = times_within(bucket.first + 1, bucket.last, a, c)
     outside = between - inside
     return (known + max(0, others - outside), known + min(others, inside))
+
+
+def sum_bounds(bucket, a, c):
+    """The least and the greatest sum of the values of the bucket's samples from a to ahead of c, as a tuple."""
+    few_and_many = number_bounds(bucket, a, c)
+    return (least_sum(bucket, few_and_many[0]), greatest_sum(bucket, few_and_many[1]))
+
+
+# Any sample of a bucket may have any of its values. That one has the least and one the greatest costs neither bound
+# below anything: where some lie within and some do not, the least is on the side with the small sum, the greatest on
+# the other.
+
+
+def least_sum(bucket, within):
+    """The least that so many of the bucket's samples come to; it is no greater for fewer of them."""
+    # The others take what they can of the sum.
+    others = bucket.number - within
+    return max(within * bucket.least, bucket.total - others * bucket.greatest)
+
+
+def greatest_sum(bucket, within):
+    """The greatest that so many of the bucket's samples come to; it is no less for more of them."""
+    # The others leave what they can of the sum.
+    others = bucket.number - within
+    return min(within * bucket.greatest, bucket.total - others * bucket.least)
+
+
+def may_lie_within(bucket, a, c):
+    """Whether any of the bucket's samples may lie from a to ahead of c."""
+    return number_bounds(bucket, a, c)[1] > 0
+
+
+def added_up(pairs):
+    """The lower bounds added up, then the upper ones, of a list of tuples of both."""
+    return [sum([pair[0] for pair in pairs]), sum([pair[1] for pair in pairs])]

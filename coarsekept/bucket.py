@@ -29,6 +29,11 @@ def joined(one, other):
     )
 
 
+def numbers_of(bucket):
+    """What the bucket keeps, as a list in the order of its class."""
+    return [bucket.number, bucket.first, bucket.last, bucket.total, bucket.least, bucket.greatest]
+
+
 def beginning_of_stretch(time, width):
     """Where the stretch of that width begins in which the time lies; 0 for a time below 0."""
     if time < 0:

@@ -1,14 +1,14 @@
 """The house that keeps samples, and the calls on it."""
 
-from coarsekept.bounds import number_bounds
-from coarsekept.bucket import beginning_of_stretch, bucket_of_one, put_into_stretches
+from coarsekept.bounds import added_up, may_lie_within, number_bounds, sum_bounds
+from coarsekept.bucket import beginning_of_stretch, bucket_of_one, numbers_of, put_into_stretches
 
 LIMIT = 1000000
 LATEST_NOW = 2000000
 MOST_SAMPLES = 100
 
 # How many whole numbers stand behind a call's number.
-GIVEN = {1: 5, 2: 2, 3: 1, 4: 2}
+GIVEN = {1: 5, 2: 2, 3: 1, 4: 2, 5: 2, 6: 2, 7: 0, 8: 1}
 
 
 class House:
@@ -75,17 +75,47 @@ class House:
         self.larger = staying
 
     def how_many(self, a, c):
-        if c <= a:
+        refused = self.refused_stretch(a, c)
+        if refused < 0:
+            return [refused]
+        return added_up([number_bounds(one, a, c) for one in self.kept()])
+
+    def what_they_come_to(self, a, c):
+        refused = self.refused_stretch(a, c)
+        if refused < 0:
+            return [refused]
+        return added_up([sum_bounds(one, a, c) for one in self.kept()])
+
+    def greatest_there(self, a, c):
+        refused = self.refused_stretch(a, c)
+        if refused < 0:
+            return [refused]
+        # Any sample of a bucket may be the one with its greatest value, so one that may lie there is enough.
+        found = [one.greatest for one in self.kept() if may_lie_within(one, a, c)]
+        if len(found) == 0:
+            return [-4]
+        return [max(found)]
+
+    def edges(self):
+        return [self.e0, self.e1, self.e2]
+
+    def buckets_in_order(self, i):
+        if i > 1:
             return [-1]
+        asked = self.buckets if i == 0 else self.larger
+        answered = [len(asked)]
+        for begins in sorted(asked):
+            answered.append(begins)
+            answered.extend(numbers_of(asked[begins]))
+        return answered
+
+    def refused_stretch(self, a, c):
+        """The number of the refusal of the time from a to ahead of c; 0, if it is not refused."""
+        if c <= a:
+            return -1
         if a < self.e2:
-            return [-3]
-        fewest = 0
-        most = 0
-        for one in self.kept():
-            few_and_many = number_bounds(one, a, c)
-            fewest += few_and_many[0]
-            most += few_and_many[1]
-        return [fewest, most]
+            return -3
+        return 0
 
     def kept(self):
         return list(self.larger.values()) + list(self.buckets.values()) + list(self.samples.values())
@@ -109,7 +139,15 @@ def answer(house, number, given):
         return house.sample(given[0], given[1])
     if number == 3:
         return house.age(given[0])
-    return house.how_many(given[0], given[1])
+    if number == 4:
+        return house.how_many(given[0], given[1])
+    if number == 5:
+        return house.what_they_come_to(given[0], given[1])
+    if number == 6:
+        return house.greatest_there(given[0], given[1])
+    if number == 7:
+        return house.edges()
+    return house.buckets_in_order(given[0])
 
 
 def answers(calls):

@@ -1,15 +1,15 @@
-"""What no call of the house shows yet: all that a bucket keeps, and the edges themselves."""
+"""What buckets keep and how they are put together, below the calls."""
 
 import itertools
 import unittest
 
-from coarsekept.bucket import beginning_of_stretch, bucket_of_one, joined, put_into_stretches
+from coarsekept.bucket import beginning_of_stretch, bucket_of_one, joined, numbers_of, put_into_stretches
 from coarsekept.house import House
 from helping import Remembering, kept_of
 
 
 def shown(bucket):
-    return (bucket.number, bucket.first, bucket.last, bucket.total, bucket.least, bucket.greatest)
+    return tuple(numbers_of(bucket))
 
 
 def alone(samples):
